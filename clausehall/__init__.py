@@ -1,0 +1,1 @@
+"""Clauses: what can hold together, and why not."""
