@@ -11,6 +11,9 @@ VARIABLES = 1
 ADD = 2
 DROP = 3
 SOLVE = 4
+FAULT = 5
+COUNT = 6
+FORCED = 7
 
 
 class UnknownCall(ValueError):
@@ -64,7 +67,7 @@ class ClauseSet:
         return [len(self.clauses)]
 
     def solve(self, assumed):
-        if len(assumed) > MOST_ASSUMED or not self.knows_all(assumed):
+        if not self.may_assume(assumed):
             return [REFUSED]
         assumptions = Parts(assumed)
         # Ways are walked upwards, so the first that is found is the least.
@@ -72,6 +75,34 @@ class ClauseSet:
             if assumptions.all_hold(way) and self.fits(way):
                 return [1, way]
         return [0]
+
+    def fault(self, assumed):
+        if not self.may_assume(assumed):
+            return [REFUSED]
+        singles = [Parts([part]) for part in assumed]
+        held_together = [held_bits(singles, way) for way in self.fitting_ways()]
+        named = (1 << len(assumed)) - 1
+        if can_hold(named, held_together):
+            return [1]
+        return [0, least_at_fault(named, held_together)]
+
+    def count(self, most):
+        return [min(most, len(self.fitting_ways()))]
+
+    def forced(self):
+        ways = self.fitting_ways()
+        if len(ways) == 0:
+            return [REFUSED]
+        all_bits = (1 << self.variable_count) - 1
+        always_true = all_bits
+        once_true = 0
+        for way in ways:
+            always_true = always_true & way
+            once_true = once_true | way
+        return [0, always_true, all_bits - once_true]
+
+    def may_assume(self, assumed):
+        return len(assumed) <= MOST_ASSUMED and self.knows_all(assumed)
 
     def knows_all(self, parts):
         for part in parts:
@@ -85,15 +116,47 @@ class ClauseSet:
                 return False
         return True
 
+    def fitting_ways(self):
+        return [way for way in range(1 << self.variable_count) if self.fits(way)]
+
+
+def held_bits(singles, way):
+    """Those of singles that hold in way, the one at place i by bit i."""
+    held = 0
+    for place in range(len(singles)):
+        if singles[place].all_hold(way):
+            held = held | (1 << place)
+    return held
+
+
+def can_hold(named, held_together):
+    """Whether all assumptions that named names are among those that one way lets hold together."""
+    for held in held_together:
+        if (held & named) == named:
+            return True
+    return False
+
+
+def least_at_fault(named, held_together):
+    """The least number that names assumptions of named that can't hold together; all of named can't."""
+    # An assumption weighs more than all before it, so each is left out, the last one first, where the rest
+    # still can't hold together. Of the least number none is too many: without it the number were less.
+    least = named
+    for place in range(named.bit_length() - 1, -1, -1):
+        rest = least - (1 << place)
+        if not can_hold(rest, held_together):
+            least = rest
+    return least
+
 
 def call_length(calls, start):
     """How many numbers the call that begins at start takes up in calls."""
     number = calls[start]
-    if number == VARIABLES:
+    if number == VARIABLES or number == COUNT:
         return 2
-    if number == DROP:
+    if number == DROP or number == FORCED:
         return 1
-    if number == ADD or number == SOLVE:
+    if number == ADD or number == SOLVE or number == FAULT:
         return 2 + calls[start + 1]
     raise UnknownCall(f"no call has the number {number}")
 
@@ -107,7 +170,13 @@ def answer_call(clause_set, call):
         return clause_set.add(call[2:])
     if number == DROP:
         return clause_set.drop()
-    return clause_set.solve(call[2:])
+    if number == SOLVE:
+        return clause_set.solve(call[2:])
+    if number == FAULT:
+        return clause_set.fault(call[2:])
+    if number == COUNT:
+        return clause_set.count(call[1])
+    return clause_set.forced()
 
 
 def answers(calls):

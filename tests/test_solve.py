@@ -4,25 +4,7 @@ import random
 import time
 import unittest
 
-from lines import GREATEST_INT, LEAST_INT, add, ask, drop, solve, variables
-
-
-def part_holds(part, way):
-    digits = format(way, "064b")[::-1]
-    return (digits[abs(part) - 1] == "1") == (part > 0)
-
-
-def least_way(n, clauses, assumed):
-    """The answer of solve, by the document's words alone, part by part."""
-    for way in range(2 ** n):
-        fits = all(any(part_holds(part, way) for part in clause) for clause in clauses)
-        if fits and all(part_holds(part, way) for part in assumed):
-            return [1, way]
-    return [0]
-
-
-def some_parts(source, n, most):
-    return [source.choice((1, -1)) * source.randint(1, n) for each in range(source.randint(0, most))]
+from lines import GREATEST_INT, LEAST_INT, Words, add, ask, drop, solve, some_parts, variables
 
 
 class Ways(unittest.TestCase):
@@ -130,7 +112,7 @@ class Many(unittest.TestCase):
                     line.append(drop())
                 else:
                     assumed = some_parts(source, n, 3)
-                    wanted.append(least_way(n, clauses, assumed))
+                    wanted.append(Words(n, clauses).solve(assumed))
                     line.append(solve(*assumed))
             with self.subTest(line=line):
                 self.assertEqual(ask(*line), wanted)
@@ -150,7 +132,7 @@ class Many(unittest.TestCase):
         source = random.Random(7)
         clauses = [some_parts(source, 10, 3) or [1, 2] for each in range(40)]
         line = [variables(10)] + [add(*parts) for parts in clauses] + [solve()] * 3
-        self.assertEqual(ask(*line)[41:], [least_way(10, clauses, [])] * 3)
+        self.assertEqual(ask(*line)[41:], [Words(10, clauses).solve([])] * 3)
         halves = [[i, j] for i in (9, -9) for j in (10, -10)]
         line = [variables(10)] + [add(*parts) for parts in halves] + [solve()]
         self.assertEqual(ask(*line)[5:], [[0]])

@@ -2,12 +2,12 @@
 
 import unittest
 
-from lines import GREATEST_INT, LEAST_INT, add, ask, drop, solve, variables
+from lines import GREATEST_INT, LEAST_INT, add, ask, count, drop, fault, forced, solve, variables
 
 
 class Beginning(unittest.TestCase):
     def test_there_is_no_variable(self):
-        self.assertEqual(ask(add(1), add(-1), solve(1)), [[-1], [-1], [-1]])
+        self.assertEqual(ask(add(1), add(-1), solve(1), fault(1)), [[-1], [-1], [-1], [-1]])
 
     def test_there_is_no_clause(self):
         self.assertEqual(ask(drop()), [[-1]])
@@ -15,7 +15,11 @@ class Beginning(unittest.TestCase):
     def test_any_call_may_be_first(self):
         self.assertEqual(ask(variables(1)), [[0]])
         self.assertEqual(ask(add()), [[0]])
+        self.assertEqual(ask(drop()), [[-1]])
         self.assertEqual(ask(solve()), [[1, 0]])
+        self.assertEqual(ask(fault()), [[1]])
+        self.assertEqual(ask(count(5)), [[1]])
+        self.assertEqual(ask(forced()), [[0, 0, 0]])
 
 
 class Variables(unittest.TestCase):
